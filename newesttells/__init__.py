@@ -1,0 +1,1 @@
+"""Newesttells: streams of deeds in which only what tells something new counts."""
