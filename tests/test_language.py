@@ -165,8 +165,8 @@ class LanguageTest(unittest.TestCase):
 
     def check_function(self, name, node):
         place = f"{name}:{node.lineno}"
-        for decorator in node.decorator_list:
-            self.assertIn(ast.unparse(decorator), ("property", "staticmethod", "classmethod", f"{node.name}.setter"), place)
+        allowed = ("property", "staticmethod", "classmethod", f"{node.name}.setter")
+        self.assertTrue(all(ast.unparse(decorator) in allowed for decorator in node.decorator_list), place)
         if node.name.startswith("__"):
             self.assertIn(node.name, DUNDERS, place)
         arguments = [arg.arg for arg in node.args.args]
@@ -251,7 +251,8 @@ class LanguageTest(unittest.TestCase):
         for name, tree in trees().items():
             for node in ast.walk(tree):
                 if isinstance(node, ast.For):
-                    head = {ast.unparse(part) for part in ast.walk(node.iter) if isinstance(part, (ast.Name, ast.Attribute))}
+                    names = [part for part in ast.walk(node.iter) if isinstance(part, (ast.Name, ast.Attribute))]
+                    head = {ast.unparse(part) for part in names}
                     for part in ast.walk(node):
                         if isinstance(part, ast.Call) and isinstance(part.func, ast.Attribute):
                             if part.func.attr in CHANGING:

@@ -51,8 +51,8 @@ class WordsTest(unittest.TestCase):
             self.assertIs(is_ratio(value), False, value)
 
     def test_ratios_are_tuples_of_two_numbers(self):
-        for value in ([1, 2], (1,), (1, 2, 3), (True, 2), (1, True), (False, 1), (None, 1), (1, None), ("1", 2), 1, "12",
-                      ((1, 2), (1, 2)), ([1], 2), {1: 2}, {1, 2}, None, True):
+        for value in ([1, 2], (1,), (1, 2, 3), (True, 2), (1, True), (False, 1), (None, 1), (1, None), ("1", 2), 1,
+                      "12", ((1, 2), (1, 2)), ([1], 2), {1: 2}, {1, 2}, None, True):
             self.assertIs(is_ratio(value), False, value)
         for value in any_values():
             self.assertIs(is_ratio(value), value == (1, 2), repr(value))

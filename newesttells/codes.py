@@ -1,0 +1,19 @@
+"""Rows and lots as numbers, for the questions that compare very many of them.
+
+The code of a row has three bits for each cell: none for a dot, and one more than the told bit for each value.
+"""
+
+
+def code_of(row):
+    """The code of a row with at least one cell."""
+    return int(row.translate({46: "0", 48: "4", 49: "5", 50: "6", 51: "7"}), 8)
+
+
+def told_code(row):
+    """All bits of the cells that a row with at least one cell tells."""
+    return int(row.translate({46: "0", 48: "7", 49: "7", 50: "7", 51: "7"}), 8)
+
+
+def lot_code(lot):
+    """A bit for each cell of a lot."""
+    return int(lot.translate({43: "1", 46: "0"}), 2)
