@@ -59,7 +59,7 @@ def told_places(signs):
 
 def check_some_lot(band, lot):
     """Raises BadLot for any value that is no lot of the band, and for nothing."""
-    if not isinstance(lot, str) or lot == blank(band.size) or lot not in band.lots():
+    if lot not in band.lots()[1:]:
         raise BadLot(lot)
 
 
@@ -136,7 +136,7 @@ class Band:
 
     def without_seed(self, seed):
         """The band without one of its seeds."""
-        if not isinstance(seed, str) or seed not in self._seeds:
+        if seed not in self._seeds:
             raise BadSeed(-1)
         return Band(self._cells, [kept for kept in self._seeds if kept != seed])
 

@@ -1,6 +1,6 @@
 """Rows and lots as numbers, for the questions that compare very many of them.
 
-The code of a row has three bits for each cell: none for a dot, and one more than the told bit for each value.
+The code of a row has an octal digit for each cell: 0 for a dot, and 4 and the value for a value.
 """
 
 

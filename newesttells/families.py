@@ -11,9 +11,8 @@ def first_break(rows):
     """The first pair of rows of a list with one over the other outside the list, None if there is none."""
     different = sorted(set(rows))
     codes = [code_of(row) for row in different]
+    # A row over another one is blank only if both are, so that the blank row needs no place of its own here.
     known = set(codes)
-    # The blank row, whose code is 0, counts as inside.
-    known.add(0)
     for one, code in zip(different, codes):
         told = told_code(one)
         for other, under in zip(different, codes):

@@ -21,7 +21,7 @@ def first_rows(band):
 
 def lying_counts(band, lot):
     """A dict from the lots T of a band such that the lot is within T to c(lot, T)."""
-    if not isinstance(lot, str) or lot not in band.lots():
+    if lot not in band.lots():
         raise BadLot(lot)
     counts = {higher: 0 for higher in band.lots() if within(lot, higher)}
     # The count is the same for all rows with the lot, so that one of them will do.

@@ -122,6 +122,8 @@ class RowsTest(unittest.TestCase):
 
     def test_laid(self):
         self.assertEqual(laid(["01.", ".10", "1..", "..1"]), "111")
+        self.assertEqual(laid(["0.", ".1"]), "01")
+        self.assertEqual(laid(["0..", ".1.", "..1", "1.0"]), "110")
         self.assertEqual(laid(["0."]), "0.")
         self.assertEqual(laid(["0.", "1."]), "1.")
         self.assertEqual(laid(("..", ".1", "..")), ".1")
