@@ -57,6 +57,12 @@ def told_places(signs):
     return [at for at, sign in enumerate(signs) if sign != "."]
 
 
+def places_of(band, names):
+    """The indexes of the cells with such names, in the order of the names."""
+    every = band.names()
+    return [every.index(name) for name in names]
+
+
 def check_some_lot(band, lot):
     """Raises BadLot for any value that is no lot of the band, and for nothing."""
     if lot not in band.lots()[1:]:

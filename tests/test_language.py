@@ -172,10 +172,43 @@ class LanguageTest(unittest.TestCase):
         arguments = [arg.arg for arg in node.args.args]
         if node.name in ("__add__", "__mul__", "__rmul__", "__eq__", "__sub__", "__radd__"):
             self.assertEqual(arguments, ["self", "other"], place)
-        if node.name == "__contains__":
-            self.assertEqual(arguments, ["self", "x"], place)
+        forms = {"__contains__": ["self", "x"], "__getitem__": ["self", "at"], "__setitem__": ["self", "at", "worth"]}
+        if node.name in forms:
+            self.assertEqual(arguments, forms[node.name], place)
         for part in ast.walk(node.args):
             self.assertNotIsInstance(part, (ast.Call, ast.List, ast.Dict, ast.Set), place)
+
+    def test_l5_items(self):
+        """A class with items is not iterated over, and no name of the package goes with that badly."""
+        items = False
+        for name, tree in trees().items():
+            for node in ast.walk(tree):
+                if isinstance(node, ast.ClassDef):
+                    methods = {part.name: part for part in node.body if isinstance(part, ast.FunctionDef)}
+                    if "__getitem__" in methods:
+                        items = True
+                        self.assertIn("__iter__", methods, name)
+                        self.assertRegex(ast.unparse(methods["__iter__"].body[0]), r"^raise TypeError\('", name)
+        for name in files() if items else []:
+            self.assertEqual([word for word in ("(type)", "Meta", "metaclass=") if word in source(name)], [], name)
+        self.assertNotIn("keys", own_methods(trees()))
+
+    def test_l23_generators(self):
+        """The call of an own generator is iterated at once, and nothing else has its name."""
+        generators, names = set(), []
+        for tree in trees().values():
+            for function in functions_of(tree):
+                names.append(function.name)
+                if any(isinstance(part, (ast.Yield, ast.YieldFrom)) for part in ast.walk(function)):
+                    generators.add(function.name)
+        self.assertEqual([name for name in generators if names.count(name) > 1], [])
+        for name, tree in trees().items():
+            heads = [ast.unparse(part.iter) for part in ast.walk(tree) if isinstance(part, (ast.For, ast.comprehension))]
+            for node in ast.walk(tree):
+                if isinstance(node, ast.Call):
+                    called = node.func.attr if isinstance(node.func, ast.Attribute) else getattr(node.func, "id", "")
+                    if called in generators:
+                        self.assertIn(ast.unparse(node), heads, f"{name}:{node.lineno}")
 
     def test_l6_statements(self):
         wrong = (ast.Global, ast.AsyncFunctionDef, ast.AsyncFor, ast.AsyncWith, ast.Await, ast.TryStar)
@@ -220,6 +253,16 @@ class LanguageTest(unittest.TestCase):
             for node in ast.walk(tree):
                 if isinstance(node, ast.Constant) and isinstance(node.value, str):
                     self.assertNotIn("%", node.value, f"{name}:{node.lineno}")
+
+    def test_l17_words_of_strings(self):
+        for name, tree in trees().items():
+            told = {id(node.body[0].value) for node in ast.walk(tree)
+                    if isinstance(node, (ast.Module, ast.ClassDef, ast.FunctionDef)) and node.body
+                    and isinstance(node.body[0], ast.Expr)}
+            for node in ast.walk(tree):
+                if isinstance(node, ast.Constant) and isinstance(node.value, str) and id(node) not in told:
+                    words = set(re.findall(r"[A-Za-z_]+", node.value))
+                    self.assertEqual(words & BARRED_WORDS, set(), f"{name}:{node.lineno}")
 
     def test_l17_words(self):
         for name, tree in trees().items():
