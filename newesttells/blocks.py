@@ -2,7 +2,7 @@
 
 from newesttells.errors import BadNumber
 from newesttells.rows import over
-from newesttells.words import is_number
+from newesttells.words import digits_of, is_number
 
 MOST_REPEATS = 10 ** 30
 
@@ -101,4 +101,4 @@ class Block:
         return True
 
     def __repr__(self):
-        return f"Block({self.length} moments)"
+        return f"Block({digits_of(self.length)} moments)"

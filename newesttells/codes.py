@@ -3,6 +3,9 @@
 The code of a row has an octal digit for each cell: 0 for a dot, and 4 and the value for a value.
 """
 
+# The codes of rows with all of twelve cells told have these bits, whatever the values are.
+TOLD_BITS = 0o444444444444
+
 
 def code_of(row):
     """The code of a row with at least one cell."""
@@ -17,3 +20,14 @@ def told_code(row):
 def lot_code(lot):
     """A bit for each cell of a lot."""
     return int(lot.translate({43: "1", 46: "0"}), 2)
+
+
+def told_bits(code):
+    """All bits of the cells that the row with a code tells."""
+    told = code & TOLD_BITS
+    return told | told >> 1 | told >> 2
+
+
+def lot_bits(lot):
+    """All bits of the cells of a lot."""
+    return int(lot.translate({43: "7", 46: "0"}), 8)

@@ -1,23 +1,23 @@
 """Seed streams counted and numbered row by row, and the shortest ways from a row to another one."""
 
 from newesttells.errors import BadNumber, BadSeed, Never, TooMany
-from newesttells.rows import laid, over
+from newesttells.rows import blank, laid, over
 from newesttells.words import is_number
 
 MOST_LENGTH = 60
 
 
-def steps_to(band, goal):
-    """A dict from the rows that can be read on the way to a goal, from the newest seed on, to lists with an item for
-    each seed of the band: the row to which it leads, None if that lets the goal not come any more."""
+def steps_to(goal, deeds):
+    """A dict from the rows that can be read on the way to a goal, from the newest deed on, to lists with an item for
+    each of the deeds: the row to which it leads, None if that lets the goal not come any more."""
     steps = {}
-    waiting = [band.blank_row()]
+    waiting = [blank(len(goal))]
     while len(waiting) > 0:
         row = waiting.pop()
         if row not in steps:
             steps[row] = []
-            for seed in band.seeds():
-                further = over(row, seed)
+            for deed in deeds:
+                further = over(row, deed)
                 steps[row].append(further if over(further, goal) == goal else None)
             waiting.extend([further for further in steps[row] if further is not None])
     return steps
@@ -49,7 +49,7 @@ def check_length(band, row, seeds):
 def count_leaving(band, row, *, seeds):
     """The number of seed streams with so many seeds that leave a row."""
     check_length(band, row, seeds)
-    return ways_left(steps_to(band, row), row, seeds)[seeds][band.blank_row()]
+    return ways_left(steps_to(row, band.seeds()), row, seeds)[seeds][band.blank_row()]
 
 
 def counts_by_tellers(steps, row, ahead):
@@ -72,7 +72,7 @@ def count_with_tellers(band, row, *, seeds, tellers):
     # There are at most as many tellers as cells.
     if tellers > band.size:
         return 0
-    steps = steps_to(band, row)
+    steps = steps_to(row, band.seeds())
     nothing = [0 for _ in range(tellers)]
     ahead = {one: [1 if one == row else 0, *nothing] for one in steps}
     for _ in range(seeds):
@@ -90,7 +90,7 @@ def number_of(band, stream):
             raise BadSeed(at)
     row = band.blank_row()
     goal = laid([row, *stream])
-    steps = steps_to(band, goal)
+    steps = steps_to(goal, band.seeds())
     ways = ways_left(steps, goal, len(stream))
     number = 0
     for at in range(len(stream) - 1, -1, -1):
@@ -104,7 +104,7 @@ def number_of(band, stream):
 def numbered(band, row, number, *, seeds):
     """The seeds, from the oldest on, of the seed stream with a number among those that leave a row."""
     check_length(band, row, seeds)
-    steps = steps_to(band, row)
+    steps = steps_to(row, band.seeds())
     ways = ways_left(steps, row, seeds)
     if not is_number(number, 0, ways[seeds][band.blank_row()] - 1):
         raise BadNumber(number)
@@ -144,6 +144,6 @@ def fewest_deeds(band, start, goal):
     for name, sign, wanted in zip(band.names(), start, goal):
         if sign != "." and wanted == ".":
             raise Never(name)
-    ways = shortest_ways(band, steps_to(band, goal))
+    ways = shortest_ways(band, steps_to(goal, band.seeds()))
     enough = [row for row in ways if over(row, start) == goal]
     return ways[enough[0]][::-1]

@@ -1,9 +1,12 @@
 """Ratios: tuples (top, bottom) of two numbers in lowest terms, and sums with them."""
 
-from math import gcd
+from math import gcd, lcm
 
 from newesttells.errors import BadNumber, BadRatio
 from newesttells.words import is_integer, is_ratio
+
+ZERO = (0, 1)
+ONE = (1, 1)
 
 
 def ratio(top, bottom=1):
@@ -63,7 +66,16 @@ def less(one, other):
 
 def total(ratios):
     """The sum of a list of ratios."""
-    answer = (0, 1)
+    answer = ZERO
     for one in ratios:
         answer = plus(answer, one)
     return answer
+
+
+def ordered_ratios(ratios):
+    """Different ratios, none of them twice in the list, ascending by their values."""
+    common = 1
+    for one in ratios:
+        common = lcm(common, one[1])
+    scaled = {one[0] * (common // one[1]): one for one in ratios}
+    return [scaled[top] for top in sorted(scaled)]

@@ -3,6 +3,8 @@
 from math import gcd
 
 LONGEST_NAME = 6
+PIECE_DIGITS = 64
+PIECE = 10 ** 64
 
 
 def is_name(value):
@@ -30,3 +32,13 @@ def is_ratio(value):
     if not is_integer(top) or not is_integer(bottom):
         return False
     return bottom >= 1 and gcd(top, bottom) == 1
+
+
+def digits_of(number):
+    """The digits of a number from 0 on; piece by piece, because Python refuses to write very long numbers at once."""
+    pieces = []
+    while number >= PIECE:
+        pieces.append(str(number % PIECE).zfill(PIECE_DIGITS))
+        number = number // PIECE
+    pieces.append(str(number))
+    return "".join(pieces[::-1])

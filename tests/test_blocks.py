@@ -202,6 +202,10 @@ class EqualTest(unittest.TestCase):
         self.assertEqual([repr(Block(band, ROWS[:count])) for count in (0, 1, 4)],
                          ["Block(0 moments)", "Block(1 moments)", "Block(4 moments)"])
         self.assertEqual(repr(Block(band, ["..."]) * 10 ** 30), f"Block({10 ** 30} moments)")
+        block = Block(band, ["..."])
+        for _ in range(200):
+            block = block * 10 ** 30
+        self.assertEqual(repr(block), "Block(1" + "0" * 6000 + " moments)")
 
     def test_a_block_is_always_true(self):
         for rows in ([], ["..."], ROWS):

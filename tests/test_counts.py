@@ -68,7 +68,8 @@ class CountTest(unittest.TestCase):
         band = band_of_8()
         self.assertEqual([count_leaving(band, row, seeds=0) for row in band.rows()], [1, 0, 0, 0, 0])
         self.assertEqual([count_with_tellers(band, "..", seeds=0, tellers=count) for count in (0, 1, 60)], [1, 0, 0])
-        self.assertEqual([count_leaving(band, "..", seeds=1), count_with_tellers(band, "..", seeds=1, tellers=0)], [0, 0])
+        self.assertEqual(count_leaving(band, "..", seeds=1), 0)
+        self.assertEqual(count_with_tellers(band, "..", seeds=1, tellers=0), 0)
 
     def test_60_seeds(self):
         band = band_of_8()

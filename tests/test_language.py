@@ -203,7 +203,8 @@ class LanguageTest(unittest.TestCase):
                     generators.add(function.name)
         self.assertEqual([name for name in generators if names.count(name) > 1], [])
         for name, tree in trees().items():
-            heads = [ast.unparse(part.iter) for part in ast.walk(tree) if isinstance(part, (ast.For, ast.comprehension))]
+            loops = [part for part in ast.walk(tree) if isinstance(part, (ast.For, ast.comprehension))]
+            heads = [ast.unparse(part.iter) for part in loops]
             for node in ast.walk(tree):
                 if isinstance(node, ast.Call):
                     called = node.func.attr if isinstance(node.func, ast.Attribute) else getattr(node.func, "id", "")

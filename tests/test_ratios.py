@@ -5,7 +5,7 @@ from fractions import Fraction
 
 from helpers import any_values, check_raises
 from newesttells.errors import BadNumber, BadRatio
-from newesttells.ratios import divided, less, minus, plus, raised, ratio, times, total
+from newesttells.ratios import divided, less, minus, ordered_ratios, plus, raised, ratio, times, total
 from newesttells.words import is_ratio
 
 
@@ -93,6 +93,11 @@ class RatiosTest(unittest.TestCase):
         self.assertIs(less(one=(1, 2), other=(1, 3)), False)
         self.assertIs(less((1, 2), (1, 2)), False)
         self.assertEqual(total(ratios=[(1, 2)]), (1, 2))
+
+    def test_ordered_ratios(self):
+        ratios = sorted({pair(one) for one in some_fractions()})
+        self.assertEqual(ordered_ratios(ratios), sorted(ratios, key=lambda one: Fraction(one[0], one[1])))
+        self.assertEqual(ordered_ratios([]), [])
 
 
 if __name__ == "__main__":

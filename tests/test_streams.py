@@ -1,4 +1,4 @@
-"""The interface under newesttells/streams.py; promises [2], [14], [15], [16], [18] (the block of a stream), [19], [45]."""
+"""The interface under newesttells/streams.py; promises [2], [14] to [16], [18] (its block), [19] and [45]."""
 
 import random
 import unittest

@@ -114,7 +114,8 @@ class StruckTest(unittest.TestCase):
             cells = struck_cells(stream, struck)
             self.assertEqual(stream.rows(), rows)
             stream.strike(struck)
-            self.assertEqual(cells, [name for name, x, y in zip(stream.band.names(), before, stream.standing) if x != y])
+            unlike = [name for name, x, y in zip(stream.band.names(), before, stream.standing) if x != y]
+            self.assertEqual(cells, unlike)
 
     def test_by_the_fact(self):
         source = random.Random(222)

@@ -4,7 +4,7 @@ import math
 import unittest
 
 from helpers import any_values
-from newesttells.words import is_name, is_number, is_ratio
+from newesttells.words import digits_of, is_name, is_number, is_ratio
 
 
 class WordsTest(unittest.TestCase):
@@ -62,6 +62,11 @@ class WordsTest(unittest.TestCase):
             for bottom in range(-12, 13):
                 right = bottom >= 1 and math.gcd(top, bottom) == 1
                 self.assertIs(is_ratio((top, bottom)), right)
+
+    def test_digits_of_any_size(self):
+        for number in (0, 7, 10 ** 63, 10 ** 64 - 1, 10 ** 64, 10 ** 64 + 5, 12345 * 10 ** 200 + 678):
+            self.assertEqual(digits_of(number), str(number))
+        self.assertEqual(digits_of(3 * 10 ** 9000 + 42), "3" + "0" * 8998 + "42")
 
 
 if __name__ == "__main__":
