@@ -205,6 +205,7 @@ class TellerListTest(unittest.TestCase):
                 check_raises(self, BadDeed, {"at": 1}, product_of, book, ["0.", value, None])
         check_raises(self, BadDeed, {"at": 1}, product_of, book, ["01", "0."])
         check_raises(self, BadDeed, {"at": 2}, product_of, book, ["0.", ".1", "01", None])
+        check_raises(self, BadDeed, {"at": 1}, product_of, example(), ["11", "0."])
         self.assertEqual(product_of(book, ["0.", "01"]), (1, 6))
 
     def test_lists_are_new(self):
