@@ -51,6 +51,19 @@ def steady_by_words(book):
     return {row: share for row, share in shares.items() if share}
 
 
+def rank(lines):
+    """The rank of a square list of lists of fractions."""
+    lines, found = [list(line) for line in lines], 0
+    for column in range(len(lines)):
+        leading = [line for line in lines[found:] if line[column]]
+        if leading:
+            first = leading[0]
+            rest = [line for line in lines[found:] if line is not first]
+            rest = [[a - b * line[column] / first[column] for a, b in zip(line, first)] for line in rest]
+            lines, found = lines[:found] + [first] + rest, found + 1
+    return found
+
+
 class SteadyTest(unittest.TestCase):
     def test_the_example(self):
         book = example()
@@ -83,6 +96,14 @@ class SteadyTest(unittest.TestCase):
                 signs = "".join(row[at] for at in places)
                 sums[signs] = sums.get(signs, 0) + share
             self.assertEqual(fractions_of(steady_shares(book=book.onto(names))), sums)
+
+    def test_no_other_shares_balance(self):
+        for book in telling_books(805, 20):
+            rows = book.band.full_rows()
+            lines = [[Fraction(-1 if f == g else 0) for g in rows] for f in rows]
+            for (x, share), g in itertools.product(shares_of(book).items(), rows):
+                lines[rows.index(oracle.over(x, g))][rows.index(g)] += share
+            self.assertEqual(rank(lines), len(rows) - 1)
 
     def test_steady_shares_are_near_what_many_deeds_leave(self):
         for book in telling_books(804, 20):
