@@ -3,7 +3,7 @@
 from newesttells.bands import Band, check_some_lot, check_told
 from newesttells.codes import code_of, told_code
 from newesttells.coming import comes_to
-from newesttells.errors import BadRow, NotClosed, TooMany
+from newesttells.errors import BadRow, NotClosed, NotInBand, TooMany
 from newesttells.rows import MOST_ROWS, MOST_SEEDS, blank, check_cells, is_row, lot_of, ordered_lots, over, within
 
 
@@ -38,6 +38,13 @@ def band_of_rows(cells, rows):
     if len(seeds) > MOST_SEEDS:
         raise TooMany(MOST_SEEDS)
     return Band(cells, seeds)
+
+
+def giver_of(known, row):
+    """What gives a row, by a dict from all rows of a band to what gives them; raises NotInBand for any other value."""
+    if not isinstance(row, str) or row not in known:
+        raise NotInBand(row)
+    return known[row]
 
 
 def fewest_seeds(band):

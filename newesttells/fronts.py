@@ -1,8 +1,8 @@
 """Bands of fronts: some things are moved to the front, and all others lie behind them in one pile."""
 
 from newesttells.arranging import all_orders, are_some_of
-from newesttells.errors import BadPiles, NotInBand
-from newesttells.families import band_of_rows
+from newesttells.errors import BadPiles
+from newesttells.families import band_of_rows, giver_of
 from newesttells.piles import check_things, pair_cells, row_of_piles
 
 
@@ -36,7 +36,4 @@ def front_row(things, front):
 def front_of(things, row):
     """The string of the things that lie alone in a row, from the front on."""
     check_things(things)
-    known = fronts_by_row(things)
-    if not isinstance(row, str) or row not in known:
-        raise NotInBand(row)
-    return known[row]
+    return giver_of(fronts_by_row(things), row)

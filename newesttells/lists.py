@@ -1,8 +1,8 @@
 """Bands of lists: which things were used last, and in which order."""
 
 from newesttells.arranging import all_orders, are_some_of, row_of_heights
-from newesttells.errors import BadPiles, NotInBand
-from newesttells.families import band_of_rows
+from newesttells.errors import BadPiles
+from newesttells.families import band_of_rows, giver_of
 from newesttells.piles import check_things, pair_cells, pair_names
 
 
@@ -38,7 +38,4 @@ def list_row(things, used):
 def list_of(things, row):
     """The string of the things of the list of a row, the newest one first."""
     check_things(things)
-    known = lists_by_row(things)
-    if not isinstance(row, str) or row not in known:
-        raise NotInBand(row)
-    return known[row]
+    return giver_of(lists_by_row(things), row)

@@ -1,8 +1,8 @@
 """Bands of piles: the ways to lay things into a row of piles."""
 
 from newesttells.arranging import all_piles, are_letters, pile_heights, row_of_heights
-from newesttells.errors import BadPiles, BadThings, NotInBand
-from newesttells.families import band_of_rows
+from newesttells.errors import BadPiles, BadThings
+from newesttells.families import band_of_rows, giver_of
 
 LEAST_THINGS = 2
 MOST_THINGS = 4
@@ -61,7 +61,4 @@ def piles_row(things, piles):
 def piles_of(things, row):
     """The list of the piles of a row, the first pile first."""
     check_things(things)
-    known = piles_by_row(things)
-    if not isinstance(row, str) or row not in known:
-        raise NotInBand(row)
-    return known[row]
+    return giver_of(piles_by_row(things), row)
