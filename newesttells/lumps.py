@@ -1,6 +1,5 @@
 """Lumps of full rows that all deeds lead as one."""
 
-from newesttells.books import check_t
 from newesttells.errors import BadLumps, BadNumber, Broken
 from newesttells.ratios import ZERO, plus
 from newesttells.rows import over
@@ -92,16 +91,15 @@ def lump_of(lumps, row):
 
 def lump_after(book, lumps, lump, t):
     """A dict from the indexes of lumps to the chances that t drawn deeds lead there from the lump with an index."""
-    check_lumps(book.band, lumps)
     torn = lumps_break(book.band, lumps)
     if torn is not None:
         raise Broken(torn[0], torn[1], torn[2])
     if not is_number(lump, 0, len(lumps) - 1):
         raise BadNumber(lump)
-    check_t(t)
+    left = book.after(t)
     indexes = indexes_of(lumps)
     chances = {}
-    for row, chance in book.after(t).items():
+    for row, chance in left.items():
         # Where the lumps hold, any row of the lump will do.
         at = indexes[over(row, lumps[lump][0])]
         chances[at] = plus(chances.get(at, ZERO), chance)

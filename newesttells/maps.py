@@ -17,11 +17,10 @@ def check_pictures(band, other, pictures):
 
 
 class Search:
-    """What streams of seeds leave: for each row that was found, the seeds that leave it, from the oldest on, and the
-    standing of their pictures; and the first two streams that break a map, None if there are none."""
+    """What streams of seeds leave: a dict from the rows that were found to the standings of the pictures; and the first
+    two streams that break a map, None if there are none."""
 
-    def __init__(self, ways, images, torn):
-        self.ways = ways
+    def __init__(self, images, torn):
         self.images = images
         self.torn = torn
 
@@ -44,9 +43,9 @@ def search(band, other, pictures):
                     images[further] = image
                     found.append(further)
                 elif images[further] != image:
-                    return Search(ways, images, (ways[further], way))
+                    return Search(images, (ways[further], way))
         fresh = found
-    return Search(ways, images, None)
+    return Search(images, None)
 
 
 def map_break(band, other, pictures):

@@ -9,7 +9,7 @@ HALF = (1, 2)
 BEYOND = (1, 1)
 
 
-def value_at(line, point):
+def excess_at(line, point):
     """What a * x + b * y is above c at a point."""
     a, b, c = line
     return minus(plus(times((a, 1), point[0]), times((b, 1), point[1])), (c, 1))
@@ -17,7 +17,7 @@ def value_at(line, point):
 
 def sign_at(line, point):
     """The sign of the cell of a line at a point."""
-    top, _ = value_at(line, point)
+    top, _ = excess_at(line, point)
     if top == 0:
         return "."
     return "1" if top > 0 else "0"
@@ -57,7 +57,7 @@ def crossings(lines, line):
     for other in lines:
         rate = rate_of(other, along(line))
         if rate != 0:
-            far = divided(minus(ZERO, value_at(other, foot)), (rate, 1))
+            far = divided(minus(ZERO, excess_at(other, foot)), (rate, 1))
             if far not in found:
                 found.append(far)
     return ordered_ratios(found)
@@ -75,7 +75,7 @@ def short_step(lines, point, direction):
     """How far one can go from a point in a direction without coming to a line that does not go through it."""
     step = ONE
     for line in lines:
-        top, bottom = value_at(line, point)
+        top, bottom = excess_at(line, point)
         rate = rate_of(line, direction)
         if top != 0 and rate != 0:
             half = ratio(abs(top), 2 * bottom * abs(rate))

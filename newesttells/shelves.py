@@ -15,7 +15,7 @@ class Held:
     """A stream and the label of its band."""
 
     def __init__(self, stream, home):
-        self.stream = stream
+        self.its_stream = stream
         self.home = home
 
 
@@ -49,17 +49,17 @@ def held_on(shelf, label):
 
 def stream_on(shelf, label):
     """The stream with a label, to be read."""
-    return held_on(shelf, label).stream
+    return held_on(shelf, label).its_stream
 
 
 def stream_to_change(shelf, label):
     """The stream with a label, to be changed; the one of an earlier shelf stays as it is."""
     held = held_on(shelf, label)
     if label not in shelf.fresh:
-        held = Held(held.stream.twin(), held.home)
+        held = Held(held.its_stream.twin(), held.home)
         shelf.kept[label] = held
         shelf.fresh[label] = True
-    return held.stream
+    return held.its_stream
 
 
 def check_free(shelf, label):
@@ -168,5 +168,5 @@ def text_of_shelf(shelf):
 
 def text_of_held(label, held):
     """The line of a stream, and one for each of its moments."""
-    moments = [f"moment {row}\n" for row in held.stream.rows()]
+    moments = [f"moment {row}\n" for row in held.its_stream.rows()]
     return "".join([f"stream {label} {held.home}\n", *moments])

@@ -55,28 +55,29 @@ class Leading:
 
 def leading_of(book):
     """Where the deeds of a book lead the full rows of its band."""
-    codes = [code_of(row) for row in book.band.full_rows()]
-    places = {code: at for at, code in enumerate(codes)}
-    moves = [{} for _ in codes]
-    stops = {}
-    for deed, weight in book.weights().items():
-        code = code_of(deed)
-        if "." not in deed:
-            stops[places[code]] = weight
-        else:
-            kept = ~told_code(deed)
-            for further, under in zip(moves, codes):
-                then = places[code | (under & kept)]
-                further[then] = further.get(then, 0) + weight
-    return Leading(moves, stops)
+    places = {code_of(row): at for at, row in enumerate(book.band.full_rows())}
+    weights = book.weights()
+    some = [(code_of(deed), ~told_code(deed), weights[deed]) for deed in weights if "." in deed]
+    stops = {places[code_of(deed)]: weights[deed] for deed in weights if "." not in deed}
+    return Leading([moves_from(code, some, places) for code in places], stops)
+
+
+def moves_from(code, deeds, places):
+    """A dict from the indexes of the rows to which deeds, given with the bits that they leave, lead a row to their
+    weights."""
+    moves = {}
+    for signs, left, weight in deeds:
+        then = places[signs | (code & left)]
+        moves[then] = moves.get(then, 0) + weight
+    return moves
 
 
 def led_on(leading, values, weight):
     """For each full row, the sum of the weights of all deeds times the values where they lead, less a weight times
     its own value. The piece for this weight becomes 0."""
-    ended = sum([many * values[then] for then, many in leading.stops.items()])
-    return [ended + sum([many * values[then] for then, many in further.items()]) - weight * value
-            for further, value in zip(leading.moves, values)]
+    stopped = sum([many * values[then] for then, many in leading.stops.items()])
+    return [stopped + sum([many * values[then] for then, many in moves.items()]) - weight * value
+            for moves, value in zip(leading.moves, values)]
 
 
 def apart(leading, values, weights):

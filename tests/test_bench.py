@@ -147,7 +147,8 @@ class WrongDeedTest(RefusedTest):
             ("band",), ("band", "q", CELLS), (*BAND, None), ("stream", "q"), ("stream", "q", "k", None), ("tell", "s"),
             ("tell", "s", "0.", "0."), ("put", "s", "0."), ("put", "s", "0.", 0, 0), ("take", "s"),
             ("take", "s", 1, 1), ("exchange", "s"), ("exchange", "s", 1, 1), ("set", "s", 1), ("set", "s", 1, "0.", 1),
-            ("drop",), ("drop", "s", "k"), ("Drop", "s"), ("undo",), ("change", "s", 1, "0."), (None, "s"), (["drop"], "s"),
+            ("drop",), ("drop", "s", "k"), ("Drop", "s"), ("undo",), ("change", "s", 1, "0."), (None, "s"),
+            (["drop"], "s"),
             (("drop",), "s"), ["drop", "s"], ["tell", "s", "0."], "drop s", {"drop": "s"}, (True, "s"), ("drop ", "s"),
             ({"drop": 1}, "s"), ("", "s"), small_bench()]
         bench = small_bench()
@@ -333,7 +334,8 @@ class TellingTest(unittest.TestCase):
 
     def test_the_journal_has_the_deeds_as_they_were(self):
         bench = Bench()
-        call = (("band", "k", tuple(CELLS), tuple(SEEDS)), ("band", "q", list(CELLS), tuple(SEEDS)), ("stream", "s", "q"))
+        call = (("band", "k", tuple(CELLS), tuple(SEEDS)), ("band", "q", list(CELLS), tuple(SEEDS)),
+                ("stream", "s", "q"))
         bench.do(*call)
         self.assertTrue(same(bench.journal(), [call]))
 
@@ -422,7 +424,8 @@ class SayTest(unittest.TestCase):
     def test_an_empty_stream(self):
         bench = small_bench()
         bench.do(("stream", "t", "k"))
-        answers = {"standing t": "..", "tellers t": "none", "window t 1 1": "error NoMoment", "end t 1": "error NoMoment"}
+        answers = {"standing t": "..", "tellers t": "none", "window t 1 1": "error NoMoment",
+                   "end t 1": "error NoMoment"}
         self.check_lines(bench, answers)
         bench.do(("tell", "t", ".."))
         self.check_lines(bench, {"standing t": "..", "tellers t": "none", "window t 1 1": "..", "end t 1": "1"})
@@ -437,7 +440,8 @@ class SayTest(unittest.TestCase):
         self.check_lines(small_bench(), {line: "error NoMoment" for line in missing})
 
     def test_unknown(self):
-        lines = ["", " ", "  ", "\n", "standing", "standing ", " standing s", "standing  s", "standing s ", "standing s s",
+        lines = ["", " ", "  ", "\n", "standing", "standing ", " standing s", "standing  s", "standing s ",
+                 "standing s s",
                  "standing s\n", "standing\ns", "\nstanding s", "Standing s", "stand s", "tellers", "tellers s 1",
                  "tellers s\n", "window", "window s", "window s 1", "window s 1 ", "window s 1 1 1", "window s  1 1",
                  "window s 01 1", "window s 1 01", "window s 00 1", "window s 1 1000000000", "window s 0000000001 1",
@@ -507,7 +511,7 @@ class ModelTest(unittest.TestCase):
         self.assertEqual(replayed(bench.journal()).labels(), bench.labels())
 
     def test_by_chance(self):
-        """Whatever is done, behind each call a bench is as the words of [48] say, and as one that was led there anew."""
+        """Behind each call a bench is as the words of [48] say, and as one that was led there anew."""
         source = random.Random(1600)
         kinds = {}
         for _ in range(30):

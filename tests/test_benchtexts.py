@@ -122,7 +122,8 @@ class ReadTest(unittest.TestCase):
     def test_a_bench_that_was_read_goes_on(self):
         bench = read_bench(TEXT)
         bench.do(("tell", "t", "1"), ("drop", "u"), ("stream", "v", "q"))
-        self.assertEqual([bench.history(), bench.labels(), bench("standing t")], [(1, 0), ["k", "q", "s", "t", "v"], "1"])
+        self.assertEqual([bench.history(), bench.labels(), bench("standing t")],
+                         [(1, 0), ["k", "q", "s", "t", "v"], "1"])
         bench.undo()
         self.assertEqual(bench.text(), TEXT)
         self.assertEqual(read_bench(bench.tried(("take", "s", 1))).stream_at("s").rows(), ["0.", ".."])
@@ -158,14 +159,18 @@ class ReadTest(unittest.TestCase):
 
     def test_wrong_lines_behind_each_kind_of_line(self):
         for head, at, good in (("band k\n", 1, ("cell",)), ("band k\ncell a 2\n", 2, ("cell", "seed")),
-                               (BAND_Q, 4, ("seed", "band", "stream")), (BAND_Q + "stream s q\n", 5, ("stream", "moment")),
+                               (BAND_Q, 4, ("seed", "band", "stream")),
+                               (BAND_Q + "stream s q\n", 5, ("stream", "moment")),
                                (BAND_Q + "stream s q\nmoment 0\n", 6, ("stream", "moment"))):
-            for kind, line in (("band", "band z\n"), ("cell", "cell z 2\n"), ("seed", "seed .\n"), ("stream", "stream z q\n"),
+            for kind, line in (("band", "band z\n"), ("cell", "cell z 2\n"), ("seed", "seed .\n"),
+                               ("stream", "stream z q\n"),
                                ("moment", "moment .\n"), ("", "\n"), ("", " \n"), ("", "x\n"), ("", "moment\n"),
                                ("", "moment 4\n"), ("", "moment  0\n"), ("", "moment 0 \n"), ("", "moment 0 0\n"),
                                ("", "moment 0"), ("", "stream z\n"), ("", "stream z q q\n"), ("", "stream Z q\n"),
-                               ("", "stream z 0\n"), ("", "stream z q"), ("", "seed 4\n"), ("", "seed 0"), ("", "cell z 5\n"),
-                               ("", "cell z 02\n"), ("", "cell z 2"), ("", "band z"), ("", "end s 1\n"), ("", "moment +\n")):
+                               ("", "stream z 0\n"), ("", "stream z q"), ("", "seed 4\n"), ("", "seed 0"),
+                               ("", "cell z 5\n"),
+                               ("", "cell z 02\n"), ("", "cell z 2"), ("", "band z"), ("", "end s 1\n"),
+                               ("", "moment +\n")):
                 if kind not in good:
                     self.check(head + line, at, "form")
                     self.check(head + line + " x\n", at, "form")
@@ -185,7 +190,8 @@ class ReadTest(unittest.TestCase):
                      "".join(f"cell {name} 1\n" for name in "abcdefghijklm") + "seed 0000000000000\n"):
             text = BAND_Q + "band k\n" + band
             # At the end of the text, and ahead of right and of wrong lines.
-            for behind in ("", BAND_K, "stream s k\n", "stream s q\n", "x\n", "seed\n", "cell b 2\n", "band q\n", "moment 0\n",
+            for behind in ("", BAND_K, "stream s k\n", "stream s q\n", "x\n", "seed\n", "cell b 2\n", "band q\n",
+                           "moment 0\n",
                            "stream q q\n", "seed 0", "band"):
                 self.check(text + behind, 4, "band")
             self.check("band k\n" + band, 0, "band")
@@ -266,7 +272,8 @@ class ReadTest(unittest.TestCase):
             bent = TEXT
             for _ in range(source.randint(1, 2)):
                 at = source.randrange(len(bent) + 1)
-                sign = source.choice(["", "\n", " ", ".", "0", "1", "k", "q", "s", "moment .\n", "stream v k\n", "seed 0\n"])
+                sign = source.choice(["", "\n", " ", ".", "0", "1", "k", "q", "s", "moment .\n", "stream v k\n",
+                                      "seed 0\n"])
                 bent = bent[:at] + sign + bent[at + source.randint(0, 2):]
             self.check_text(bent)
 

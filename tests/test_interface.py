@@ -64,7 +64,8 @@ CLASSES = {
         "block()", "onto(cells)", "twin()", "standing", "spare_count", "__getitem__", "__setitem__", "__iter__",
         "__add__", "__eq__", "__len__", "__bool__", "__repr__"],
     ("fogs", "Fog(band, layers=())"): [
-        "layers()", "tell(choices)", "put(choices, *, behind)", "take(moment)", "narrow(moment, choices)", "table(cells)",
+        "layers()", "tell(choices)", "put(choices, *, behind)", "take(moment)", "narrow(moment, choices)",
+        "table(cells)",
         "together(cells)", "possible(cell)", "sure()", "how_many(saying)", "left(saying)", "history(saying)",
         "histories(saying)", "stream()", "onto(cells)", "twin()", "__eq__", "__len__", "__bool__", "__repr__"],
     ("powers", "Powers(parts=())"): [
@@ -131,7 +132,8 @@ class InterfaceTest(unittest.TestCase):
             self.assertEqual(written(name, parameters), line, kind)
 
     def test_calling_objects(self):
-        for module, name, parameter in (("powers", "Powers", "t"), ("maps", "BandMap", "row"), ("bench", "Bench", "line")):
+        for module, name, parameter in (("powers", "Powers", "t"), ("maps", "BandMap", "row"),
+                                        ("bench", "Bench", "line")):
             call = vars(getattr(module_of(module), name))["__call__"]
             self.assertEqual(list(inspect.signature(call).parameters)[1:], [parameter])
 

@@ -275,6 +275,11 @@ class LanguageTest(unittest.TestCase):
                 if isinstance(node, (ast.FunctionDef, ast.ClassDef)):
                     self.assertNotIn(node.name, BARRED_WORDS | BARRED_NAMES, name)
 
+    def test_l18_no_name_is_a_method_and_an_attribute(self):
+        stored = {node.attr for tree in trees().values() for node in ast.walk(tree)
+                  if isinstance(node, ast.Attribute) and isinstance(node.ctx, ast.Store)}
+        self.assertEqual(stored & own_methods(trees()), set())
+
     def test_l20_is(self):
         def is_wrong(node):
             if not isinstance(node, ast.Compare):

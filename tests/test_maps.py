@@ -247,7 +247,8 @@ class OnTest(unittest.TestCase):
         for one, two, three, four in itertools.product(bands, repeat=4):
             steps = []
             for source_band, other in ((one, two), (two, three), (three, four)):
-                for images in itertools.islice(itertools.product(other.rows(), repeat=len(source_band.seeds())), 1, 200, 7):
+                for images in itertools.islice(itertools.product(other.rows(), repeat=len(source_band.seeds())), 1,
+                                               200, 7):
                     pictures = dict(zip(source_band.seeds(), images))
                     if map_break(source_band, other, pictures) is None:
                         steps.append(BandMap(source_band, other, pictures))
